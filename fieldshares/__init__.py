@@ -1,0 +1,1 @@
+"""Wanderers between fields: how a kind's share goes from field to field."""
