@@ -9,8 +9,11 @@ NOT_STARTED = -11
 NOT_TO_BE_MOVED = -12
 NOT_AS_TOLD = -22
 TOO_FINE = -28
+NOT_WITHIN = -33
 
 MOST_GENERATIONS = 4
+MOST_WEIGHT = 1000
+MOST_PARTS = 1000
 FINEST_LOWER = 1000000
 FIELDS_BY_LENGTH = {4: 2, 9: 3, 16: 4}
 
@@ -21,6 +24,18 @@ def are_fields(fields, told):
 
 def are_generations(n):
     return n <= MOST_GENERATIONS
+
+
+def are_one_each(fields, told, most):
+    return len(told) == fields.how_many() and max(told) <= most
+
+
+def first_time(by_generation):
+    """After how many generations, first, it is so; told is whether it's so after 0, after 1, and so on."""
+    for n, is_so in enumerate(by_generation):
+        if is_so:
+            return [n]
+    return [NOT_WITHIN]
 
 
 def answer_start(fields, told):
@@ -35,7 +50,7 @@ def answer_start(fields, told):
 
 
 def answer_shares(fields, told):
-    if len(told) != fields.how_many() or max(told) > HUNDRED:
+    if not are_one_each(fields, told, HUNDRED):
         return [NOT_AS_TOLD]
     fields.tell_shares(told)
     return [DONE]
@@ -97,6 +112,64 @@ def answer_from(fields, told):
     return [DONE] + fields.forebears_after(n, told[1], told[2])
 
 
+def answer_reach(fields, told):
+    if not are_fields(fields, told):
+        return [NOT_AS_TOLD]
+    return first_time([fields.has_some_after(n, told[0], told[1]) for n in range(MOST_GENERATIONS + 1)])
+
+
+def answer_mixed(fields, told):
+    return first_time([fields.is_mixed_after(n) for n in range(MOST_GENERATIONS + 1)])
+
+
+def answer_keeps(fields, told):
+    if not are_one_each(fields, told, MOST_WEIGHT):
+        return [NOT_AS_TOLD]
+    return [1 if fields.are_keeping(told) else 0]
+
+
+def answer_weighed(fields, told):
+    if not are_one_each(fields, told, MOST_WEIGHT):
+        return [NOT_AS_TOLD]
+    return [DONE] + fields.weighed(told)
+
+
+def answer_rest(fields, told):
+    if max(told) > HUNDRED:
+        return [NOT_AS_TOLD]
+    return [DONE] + fields.rest_of_two(told[0], told[1])
+
+
+def answer_pair(fields, told):
+    n = told[2]
+    if max(told[:2]) > HUNDRED or not are_generations(n):
+        return [NOT_AS_TOLD]
+    return [DONE] + fields.two_after(told[0], told[1], n)
+
+
+def answer_first(fields, told):
+    if not are_generations(told[0]):
+        return [NOT_AS_TOLD]
+    return [fields.first_greatest_after(told[0])]
+
+
+def answer_soon(fields, told):
+    m = told[0]
+    if m < 1 or m > MOST_PARTS:
+        return [NOT_AS_TOLD]
+    return first_time([fields.is_near_after(n, m) for n in range(MOST_GENERATIONS + 1)])
+
+
+def answer_alone(fields, told):
+    if not are_fields(fields, told):
+        return [NOT_AS_TOLD]
+    return [1 if fields.own_comers(told[0]) == HUNDRED else 0]
+
+
+def answer_state(fields, told):
+    return [fields.how_many()] + [fields.own_comers(i) for i in range(fields.how_many())]
+
+
 ANSWERS = {
     0: answer_start,
     1: answer_shares,
@@ -108,13 +181,20 @@ ANSWERS = {
     7: answer_bound,
     8: answer_fewest,
     9: answer_from,
+    10: answer_reach,
+    11: answer_mixed,
+    12: answer_keeps,
+    13: answer_weighed,
+    14: answer_rest,
+    15: answer_pair,
+    16: answer_first,
+    17: answer_soon,
+    18: answer_alone,
+    19: answer_state,
 }
 
 
 def answer_call(fields, number, told):
     if number != START and fields.how_many() == 0:
         return [NOT_STARTED]
-    if number not in ANSWERS:
-        # The calls from reach on are not built yet; the calls behind one are answered all the same.
-        return []
     return ANSWERS[number](fields, told)

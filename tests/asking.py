@@ -12,6 +12,7 @@ CHANGE_PLACES = [0, 100, 100, 0]
 TWO = [90, 10, 20, 80]
 THREE = [70, 20, 10, 10, 60, 30, 5, 15, 80]
 FOUR = [40, 30, 20, 10, 25, 25, 25, 25, 0, 0, 100, 0, 1, 2, 3, 94]
+MIXED_FOUR = [40, 30, 20, 10, 25, 25, 25, 25, 10, 10, 70, 10, 10, 20, 30, 40]
 
 
 def start(row):
@@ -54,12 +55,44 @@ def forebears(n, i, j):
     return [9, n, i, j]
 
 
-def later_calls():
-    """Each of the calls 10 to 19, with numbers that would be other calls if they were read as such."""
-    return [
-        [10, 0, 1], [11], [12, 2, 4, 4], [13, 3, 8, 8, 8], [14, 4, 4],
-        [15, 4, 8, 4], [16, 4], [17, 4], [18, 0], [19],
-    ]
+def reach(i, j):
+    return [10, i, j]
+
+
+def mixed():
+    return [11]
+
+
+def keeps(row):
+    return [12, len(row)] + row
+
+
+def weighed(row):
+    return [13, len(row)] + row
+
+
+def rest(a, b):
+    return [14, a, b]
+
+
+def pair(a, b, n):
+    return [15, a, b, n]
+
+
+def first(n):
+    return [16, n]
+
+
+def soon(m):
+    return [17, m]
+
+
+def alone(i):
+    return [18, i]
+
+
+def state():
+    return [19]
 
 
 def ask(*calls):
@@ -87,13 +120,19 @@ def looks(size):
     """Calls that together tell all there is to see of so many fields."""
     calls = [share(i) for i in range(size)]
     calls += [forebears(1, i, j) for i in range(size) for j in range(size)]
-    return calls
+    return calls + [state()]
 
 
 def as_fraction(answer):
     if len(answer) != 3 or answer[0] != 0:
         raise AssertionError(f"not 0 and a fraction: {answer}")
     return Fraction(answer[1], answer[2])
+
+
+def as_two_fractions(answer):
+    if len(answer) != 5 or answer[0] != 0:
+        raise AssertionError(f"not 0 and two fractions: {answer}")
+    return Fraction(answer[1], answer[2]), Fraction(answer[3], answer[4])
 
 
 class Model:
@@ -120,6 +159,13 @@ class Model:
             return Fraction(int(i == j))
         return sum(self.part[i][k] * self.back(n - 1, k, j) for k in range(len(self.part)))
 
+    def kinds_back(self, n):
+        """Of each field the set of those that its plants' forebears are of."""
+        kinds = [{i} for i in range(len(self.part))]
+        for _ in range(n):
+            kinds = [set().union(*[kinds[k] for k, p in enumerate(row) if p > 0]) for row in self.part]
+        return kinds
+
     def answer(self, call):
         number, told = call[0], call[1:]
         if number == 0:
@@ -127,8 +173,13 @@ class Model:
         if self.part is None:
             return [-11]
         calls = [None, self.shares, self.come, self.share, self.next, self.after,
-                 self.apart, self.bound, self.fewest, self.forebears]
-        return calls[number](told[1:]) if number == 1 else calls[number](*told)
+                 self.apart, self.bound, self.fewest, self.forebears,
+                 self.reach, self.mixed, self.keeps, self.weighed, self.rest,
+                 self.pair, self.first, self.soon, self.alone, self.state]
+        return calls[number](told[1:]) if number in (1, 12, 13) else calls[number](*told)
+
+    def first_time(self, is_so):
+        return next(([n] for n in range(5) if is_so(n)), [-33])
 
     def start(self, row):
         size = {4: 2, 9: 3, 16: 4}.get(len(row))
@@ -182,3 +233,49 @@ class Model:
 
     def forebears(self, n, i, j):
         return self.told(self.back(n, i, j)) if n <= 4 and self.there(i, j) else [-22]
+
+    def reach(self, i, j):
+        return self.first_time(lambda n: j in self.kinds_back(n)[i]) if self.there(i, j) else [-22]
+
+    def mixed(self):
+        return self.first_time(lambda n: {len(kinds) for kinds in self.kinds_back(n)} == {len(self.part)})
+
+    def are_weights(self, row):
+        return len(row) == len(self.part) and all(weight <= 1000 for weight in row)
+
+    def keeps(self, row):
+        if not self.are_weights(row):
+            return [-22]
+        gone = [sum(weight * part[j] for weight, part in zip(row, self.part)) for j in range(len(row))]
+        return [int(gone == row)]
+
+    def weighed(self, row):
+        return self.told(sum(w * v for w, v in zip(row, self.now))) if self.are_weights(row) else [-22]
+
+    def about(self, a, b):
+        """The share about which the first two go."""
+        return (b * self.now[0] + a * self.now[1]) / (a + b) if a or b else self.now[0]
+
+    def rest(self, a, b):
+        return self.told(self.about(a, b)) if a <= 100 and b <= 100 else [-22]
+
+    def pair(self, a, b, n):
+        if a > 100 or b > 100 or n > 4:
+            return [-22]
+        about, part = self.about(a, b), (1 - Fraction(a + b, 100)) ** n
+        both = [about + part * (value - about) for value in self.now[:2]]
+        return self.told(both[0]) + self.told(both[1])[1:]
+
+    def first(self, n):
+        return [max(range(len(self.part)), key=lambda i: (self.on(n)[i], -i))] if n <= 4 else [-22]
+
+    def soon(self, m):
+        if not 1 <= m <= 1000:
+            return [-22]
+        return self.first_time(lambda n: max(self.on(n)) - min(self.on(n)) <= Fraction(1, m))
+
+    def alone(self, i):
+        return [int(self.part[i][i] == 1)] if self.there(i) else [-22]
+
+    def state(self):
+        return [len(self.part)] + [int(row[i] * 100) for i, row in enumerate(self.part)]

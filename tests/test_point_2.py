@@ -1,9 +1,13 @@
-"""Point 2: share, after, apart."""
+"""Point 2: share, after, apart, first, soon."""
 
 import unittest
 
-from asking import (CHANGE_PLACES, EVEN, FOUR, GREATEST, THREE, TWO, after, apart, ask, last, looks, next_one, share,
-                    shares, start)
+from asking import (ALONE, CHANGE_PLACES, EVEN, FOUR, GREATEST, THREE, TWO, after, apart, ask, come, first, last,
+                    looks, next_one, share, shares, soon, start)
+
+# What is apart comes down to a half, or to a tenth, with each generation.
+HALVES = [75, 25, 25, 75]
+TENTHS = [55, 45, 45, 55]
 
 
 class Share(unittest.TestCase):
@@ -100,6 +104,130 @@ class Apart(unittest.TestCase):
     def test_refusals(self):
         for row in (TWO, THREE, FOUR):
             self.assertEqual(ask(start(row), apart(4), apart(5), apart(GREATEST))[1:], [[0, 0, 1], [-22], [-22]])
+
+
+class First(unittest.TestCase):
+    def test_each_field_may_be_the_one(self):
+        for row, size in ((TWO, 2), (THREE, 3), (FOUR, 4)):
+            for field in range(size):
+                told = [40] * size
+                told[field] = 41
+                self.assertEqual(last(start(row), shares(told), first(0)), [field])
+
+    def test_ordinary(self):
+        self.assertEqual(ask(start(TWO), shares([30, 7]), *[first(n) for n in range(5)])[2:], [[0]] * 5)
+        self.assertEqual(ask(start(TWO), shares([7, 30]), *[first(n) for n in range(5)])[2:], [[1]] * 5)
+        self.assertEqual(ask(start(THREE), shares([10, 20, 40]), *[first(n) for n in range(5)])[2:], [[2]] * 5)
+        self.assertEqual(ask(start(FOUR), shares([4, 8, 12, 0]), *[first(n) for n in range(5)])[2:], [[2]] * 5)
+
+    def test_shares_alike(self):
+        for row, size in ((TWO, 2), (THREE, 3), (FOUR, 4), (CHANGE_PLACES, 2)):
+            for hundredths in (0, 37, 100):
+                seen = ask(start(row), shares([hundredths] * size), *[first(n) for n in range(5)])
+                self.assertEqual(seen[2:], [[0]] * 5)
+
+    def test_the_first_of_several_greatest(self):
+        self.assertEqual(ask(start(THREE), shares([5, 9, 9]), first(0), shares([9, 5, 9]), first(0), shares([9, 9, 5]),
+                             first(0))[2::2], [[1], [0], [0]])
+        self.assertEqual(ask(start(FOUR), shares([5, 6, 9, 9]), first(0), shares([5, 9, 6, 9]), first(0))[2::2],
+                         [[2], [1]])
+        self.assertEqual(ask(start(EVEN), shares([0, 100]), *[first(n) for n in range(5)])[2:],
+                         [[1], [0], [0], [0], [0]])
+
+    def test_the_greatest_changes_from_generation_to_generation(self):
+        self.assertEqual(ask(start(CHANGE_PLACES), shares([3, 50]), *[first(n) for n in range(5)])[2:],
+                         [[1], [0], [1], [0], [1]])
+        self.assertEqual(ask(start([0, 100, 0, 0, 0, 100, 100, 0, 0]), shares([1, 2, 3]),
+                             *[first(n) for n in range(5)])[2:], [[2], [1], [0], [2], [1]])
+        self.assertEqual(ask(start([0, 100, 0, 0, 0, 0, 100, 0, 0, 0, 0, 100, 100, 0, 0, 0]), shares([0, 0, 0, 1]),
+                             *[first(n) for n in range(5)])[2:], [[3], [2], [1], [0], [3]])
+        # 30 and 7, then 11.6 and 25.4, then 22.64 and 14.36, of 100
+        self.assertEqual(ask(start([20, 80, 80, 20]), shares([30, 7]), *[first(n) for n in range(5)])[2:],
+                         [[0], [1], [0], [1], [0]])
+
+    def test_from_now_on(self):
+        self.assertEqual(ask(start([0, 100, 0, 0, 0, 100, 100, 0, 0]), shares([1, 2, 3]), next_one(), first(0),
+                             first(1), next_one(), first(0), first(4))[3:], [[1], [0], [0], [0], [2]])
+
+    def test_a_little_more_is_greatest(self):
+        # 49 and 50, 50 and 49.99, 49.99 and 49.9901, 49.9901 and 49.990099, 49.990099 and 49.99009901, of 100
+        self.assertEqual(ask(start([0, 100, 1, 99]), shares([49, 50]), *[first(n) for n in range(5)])[2:],
+                         [[1], [0], [1], [0], [1]])
+
+    def test_refusals(self):
+        for row in (TWO, THREE, FOUR):
+            self.assertEqual(ask(start(row), first(0), first(4), first(5), first(GREATEST))[1:],
+                             [[0], [0], [-22], [-22]])
+
+
+class Soon(unittest.TestCase):
+    def answered(self, row, told, parts):
+        return [answer[0] for answer in ask(start(row), shares(told), *[soon(m) for m in parts])[2:]]
+
+    def test_two_fields(self):
+        # 1, then 7 tenths of it with each generation: 700, 490, 343 and 240.1 of 1000
+        self.assertEqual(self.answered(TWO, [100, 0], [1, 2, 3, 4, 5, 1000]), [0, 2, 4, 4, -33, -33])
+        self.assertEqual(self.answered(TWO, [0, 100], [1, 2, 3, 4, 5, 1000]), [0, 2, 4, 4, -33, -33])
+        self.assertEqual(self.answered(TWO, [30, 7], [4, 5, 6, 7, 8, 9, 12, 13, 18, 19]),
+                         [0, 1, 1, 2, 2, 3, 3, 4, 4, -33])
+
+    def test_three_fields(self):
+        # 0.3, 0.205, 0.1385, 0.0929, 0.062025
+        self.assertEqual(self.answered(THREE, [10, 20, 40], [1, 3, 4, 5, 7, 8, 10, 11, 16, 17]),
+                         [0, 0, 1, 2, 2, 3, 3, 4, 4, -33])
+
+    def test_four_fields(self):
+        # 0.12, 0.1144, 0.109296, 0.1044.., 0.0997..
+        self.assertEqual(self.answered(FOUR, [4, 8, 12, 0], [8, 9, 10, 11]), [0, 2, 4, -33])
+        self.assertEqual(self.answered([25] * 16, [0, 30, 7, 100], [1, 2, 1000]), [0, 1, 1])
+
+    def test_just_one_part_in_m_and_a_little_more(self):
+        self.assertEqual(self.answered(HALVES, [100, 0], [1, 2, 3, 4, 5, 8, 9, 16, 17]),
+                         [0, 1, 2, 2, 3, 3, 4, 4, -33])
+        self.assertEqual(self.answered(TENTHS, [100, 0], [1, 2, 10, 11, 100, 101, 1000]), [0, 1, 1, 2, 2, 3, 3])
+        for hundredths, answer in ((10, 0), (11, 1), (20, 1), (21, 2), (40, 2), (41, 3), (80, 3), (81, 4)):
+            self.assertEqual(self.answered(HALVES, [hundredths, 0], [10]), [answer])
+        self.assertEqual(self.answered(ALONE, [1, 0], [100, 101]), [0, -33])
+        self.assertEqual(self.answered(ALONE, [4, 8], [25, 26]), [0, -33])
+        self.assertEqual(self.answered(ALONE, [100, 0], [1, 2]), [0, -33])
+
+    def test_the_finest(self):
+        # After 2 generations 1 of 1000 apart, or 1.1 of 1000
+        self.assertEqual(self.answered(TENTHS, [10, 0], [1000]), [2])
+        self.assertEqual(self.answered(TENTHS, [11, 0], [1000]), [3])
+        self.assertEqual(ask(start(TENTHS), shares([1, 0]), soon(1000), next_one(), soon(1000))[2:], [[1], [0], [0]])
+        self.assertEqual(self.answered(HALVES, [1, 0], [1000, 800, 801, 100]), [4, 3, 4, 0])
+        self.assertEqual(self.answered(HALVES, [2, 0], [800, 801]), [4, -33])
+
+    def test_after_4_but_not_3(self):
+        self.assertEqual(self.answered(HALVES, [80, 0], [19, 20]), [4, 4])
+        self.assertEqual(self.answered(HALVES, [80, 0], [21]), [-33])
+
+    def test_shares_alike(self):
+        for row, size in ((TWO, 2), (ALONE, 2), (CHANGE_PLACES, 2), (THREE, 3), (FOUR, 4)):
+            for hundredths in (0, 9, 100):
+                self.assertEqual(self.answered(row, [hundredths] * size, [1, 2, 999, 1000]), [0] * 4)
+
+    def test_never_where_places_are_changed(self):
+        self.assertEqual(self.answered(CHANGE_PLACES, [0, 100], [1, 2]), [0, -33])
+
+    def test_from_now_on(self):
+        self.assertEqual(ask(start(HALVES), shares([100, 0]), soon(17), next_one(), soon(17), soon(16), soon(32),
+                             soon(33), come(0, 1, 0, 25), soon(2))[2:],
+                         [[-33], [0], [4], [3], [4], [-33], [100], [0]])
+
+    def test_it_follows_come(self):
+        self.assertEqual(ask(start(ALONE), shares([0, 100]), soon(2), come(0, 0, 1, 49), soon(2), come(0, 0, 1, 1),
+                             soon(2))[2:], [[-33], [49], [2], [50], [1]])
+
+    def test_refusals(self):
+        for row in (TWO, THREE, FOUR, ALONE):
+            self.assertEqual(ask(start(row), soon(0), soon(1), soon(1000), soon(1001), soon(GREATEST))[1:],
+                             [[-22], [0], [0], [-22], [-22]])
+
+    def test_the_first_named_is_answered(self):
+        self.assertEqual(ask(start(ALONE), shares([0, 100]), soon(1000), soon(1001), soon(0), soon(GREATEST))[2:],
+                         [[-33], [-22], [-22], [-22]])
 
 
 if __name__ == "__main__":

@@ -1,11 +1,17 @@
-"""Point 3: fewest, bound, from."""
+"""Point 3: fewest, bound, from, reach, mixed."""
 
 import unittest
+from itertools import product
 
-from asking import (ALONE, CHANGE_PLACES, EVEN, FOUR, GREATEST, THREE, TWO, bound, come, ask, fewest, forebears, last,
-                    looks, next_one, shares, start)
+from asking import (ALONE, CHANGE_PLACES, EVEN, FOUR, GREATEST, MIXED_FOUR, THREE, TWO, ask, bound, come, fewest,
+                    forebears, last, looks, mixed, next_one, reach, shares, start)
 
-MIXED_FOUR = [40, 30, 20, 10, 25, 25, 25, 25, 10, 10, 70, 10, 10, 20, 30, 40]
+# From each field one goes on to the next, and only the last has some of its own.
+CHAIN_TWO = [0, 100, 0, 100]
+CHAIN_THREE = [0, 100, 0, 0, 0, 100, 0, 0, 100]
+CHAIN_FOUR = [0, 100, 0, 0, 0, 0, 100, 0, 0, 0, 0, 100, 0, 0, 0, 100]
+ROUND_THREE = [0, 100, 0, 0, 0, 100, 100, 0, 0]
+ROUND_FOUR = [0, 100, 0, 0, 0, 0, 100, 0, 0, 0, 0, 100, 100, 0, 0, 0]
 
 
 class Fewest(unittest.TestCase):
@@ -119,6 +125,121 @@ class From(unittest.TestCase):
         begun = [start(FOUR), shares([4, 8, 12, 0])]
         looked = [fewest(), bound(3), bound(5), forebears(4, 0, 1), forebears(5, 0, 1), forebears(1, 4, 0)]
         self.assertEqual(ask(*begun, *looked, *looks(4))[8:], ask(*begun, *looks(4))[2:])
+
+
+class Reach(unittest.TestCase):
+    def table(self, row, size):
+        seen = ask(start(row), *[reach(i, j) for i in range(size) for j in range(size)])[1:]
+        return [[answer[0] for answer in seen[at * size:(at + 1) * size]] for at in range(size)]
+
+    def test_itself_after_none(self):
+        for row, size in ((TWO, 2), (CHANGE_PLACES, 2), (ALONE, 2), (THREE, 3), (ROUND_THREE, 3), (FOUR, 4),
+                          (CHAIN_FOUR, 4), (ROUND_FOUR, 4)):
+            self.assertEqual(ask(start(row), *[reach(i, i) for i in range(size)])[1:], [[0]] * size)
+
+    def test_two_fields(self):
+        self.assertEqual(self.table(TWO, 2), [[0, 1], [1, 0]])
+        self.assertEqual(self.table(CHANGE_PLACES, 2), [[0, 1], [1, 0]])
+        self.assertEqual(self.table(ALONE, 2), [[0, -33], [-33, 0]])
+        self.assertEqual(self.table(CHAIN_TWO, 2), [[0, 1], [-33, 0]])
+
+    def test_three_fields(self):
+        self.assertEqual(self.table(THREE, 3), [[0, 1, 1], [1, 0, 1], [1, 1, 0]])
+        self.assertEqual(self.table(CHAIN_THREE, 3), [[0, 1, 2], [-33, 0, 1], [-33, -33, 0]])
+        self.assertEqual(self.table(ROUND_THREE, 3), [[0, 1, 2], [2, 0, 1], [1, 2, 0]])
+        self.assertEqual(self.table([99, 1, 0, 0, 99, 1, 0, 1, 99], 3), [[0, 1, 2], [-33, 0, 1], [-33, 1, 0]])
+
+    def test_four_fields(self):
+        self.assertEqual(self.table(FOUR, 4), [[0, 1, 1, 1], [1, 0, 1, 1], [-33, -33, 0, -33], [1, 1, 1, 0]])
+        self.assertEqual(self.table(CHAIN_FOUR, 4),
+                         [[0, 1, 2, 3], [-33, 0, 1, 2], [-33, -33, 0, 1], [-33, -33, -33, 0]])
+        self.assertEqual(self.table(ROUND_FOUR, 4), [[0, 1, 2, 3], [3, 0, 1, 2], [2, 3, 0, 1], [1, 2, 3, 0]])
+
+    def test_a_hundredth_is_some(self):
+        self.assertEqual(self.table([99, 1, 0, 0, 0, 99, 1, 0, 0, 0, 99, 1, 0, 0, 0, 100], 4)[0], [0, 1, 2, 3])
+
+    def test_as_from_tells_it(self):
+        # Of four fields none is further than 3 generations off: what first comes after 4 came before.
+        for row in (CHAIN_FOUR, ROUND_FOUR, FOUR, MIXED_FOUR):
+            for i, j in product(range(4), repeat=2):
+                seen = ask(start(row), reach(i, j), *[forebears(n, i, j) for n in range(5)])[1:]
+                some = [n for n, answer in enumerate(seen[1:]) if answer[1] > 0]
+                self.assertEqual(seen[0], [some[0] if some else -33])
+                self.assertNotEqual(seen[0], [4])
+        self.assertEqual(ask(start(CHAIN_FOUR), reach(0, 3), forebears(2, 0, 3), forebears(3, 0, 3),
+                             forebears(4, 0, 3))[1:], [[3], [0, 0, 1], [0, 1, 1], [0, 1, 1]])
+
+    def test_it_follows_come(self):
+        self.assertEqual(ask(start(ALONE), reach(0, 1), come(0, 0, 1, 1), reach(0, 1), reach(1, 0), come(0, 1, 0, 1),
+                             reach(0, 1))[1:], [[-33], [1], [1], [-33], [100], [-33]])
+
+    def test_shares_and_generations_gone_by_do_not_matter(self):
+        begun = [start(CHAIN_FOUR), shares([10, 20, 40, 3]), next_one(), next_one()]
+        self.assertEqual(last(*begun, reach(0, 3)), [3])
+        self.assertEqual(last(*begun, reach(3, 0)), [-33])
+
+    def test_refusals(self):
+        for row, size in ((TWO, 2), (CHAIN_TWO, 2), (THREE, 3), (CHAIN_THREE, 3), (FOUR, 4), (CHAIN_FOUR, 4)):
+            top = size - 1
+            self.assertEqual(ask(start(row), reach(top, top), reach(0, 1))[1:], [[0], [1]])
+            for told in ((size, 0), (0, size), (size, top), (top, size), (size, size), (GREATEST, 0), (0, GREATEST),
+                         (GREATEST, GREATEST), (top, GREATEST)):
+                self.assertEqual(last(start(row), reach(*told)), [-22], told)
+
+
+class Mixed(unittest.TestCase):
+    def test_two_fields(self):
+        for row, answer in ((TWO, 1), (EVEN, 1), ([1, 99, 99, 1], 1), ([0, 100, 1, 99], 2), ([50, 50, 100, 0], 2)):
+            self.assertEqual(last(start(row), mixed()), [answer], row)
+
+    def test_three_fields(self):
+        told = [(THREE, 1), ([0, 100, 0, 33, 33, 34, 0, 100, 0], 2), ([0, 100, 0, 0, 0, 100, 1, 1, 98], 3),
+                ([0, 100, 0, 0, 0, 100, 1, 0, 99], 4)]
+        for row, answer in told:
+            self.assertEqual(last(start(row), mixed()), [answer], row)
+
+    def test_four_fields(self):
+        told = [(MIXED_FOUR, 1), ([0, 100, 0, 0, 25, 25, 25, 25, 0, 100, 0, 0, 0, 100, 0, 0], 2),
+                ([50, 50, 0, 0, 25, 50, 25, 0, 0, 25, 50, 25, 0, 0, 50, 50], 3),
+                ([0, 100, 0, 0, 0, 0, 100, 0, 0, 0, 0, 100, 97, 1, 1, 1], 4)]
+        for row, answer in told:
+            self.assertEqual(last(start(row), mixed()), [answer], row)
+
+    def test_not_within_4(self):
+        # The last three are mixed after 5, 5 and 10 generations: too late.
+        for row in (CHANGE_PLACES, ALONE, CHAIN_TWO, [50, 50, 0, 100], CHAIN_THREE, ROUND_THREE, FOUR, CHAIN_FOUR,
+                    ROUND_FOUR, [50, 50, 0, 50, 50, 0, 0, 0, 100], [0, 100, 0, 0, 0, 100, 50, 50, 0],
+                    [0, 100, 0, 0, 0, 0, 100, 0, 0, 0, 0, 100, 30, 30, 0, 40],
+                    [0, 100, 0, 0, 0, 0, 100, 0, 0, 0, 0, 100, 50, 50, 0, 0]):
+            self.assertEqual(last(start(row), mixed()), [-33], row)
+
+    def test_every_field_counts(self):
+        for size, each in ((2, 50), (3, 33), (4, 25)):
+            for i, j in product(range(size), repeat=2):
+                row = ([each + 100 - each * size] + [each] * (size - 1)) * size
+                k = (j + 1) % size
+                row[size * i + k] += row[size * i + j]
+                row[size * i + j] = 0
+                # Of two fields one is alone when none comes from the other.
+                self.assertEqual(last(start(row), mixed()), [-33 if size == 2 and i != j else 2], row)
+
+    def test_all_patterns_of_three_fields(self):
+        patterns = [[34, 33, 33], [50, 50, 0], [50, 0, 50], [0, 50, 50], [100, 0, 0], [0, 100, 0], [0, 0, 100]]
+        for rows in product(patterns, repeat=3):
+            row = rows[0] + rows[1] + rows[2]
+            asked = [forebears(n, i, j) for n in range(5) for i in range(3) for j in range(3)]
+            seen = ask(start(row), mixed(), *asked)[1:]
+            some = [all(answer[1] > 0 for answer in seen[at:at + 9]) for at in range(1, 46, 9)]
+            self.assertEqual(seen[0], [some.index(True) if True in some else -33], row)
+
+    def test_it_follows_come(self):
+        self.assertEqual(ask(start(ALONE), mixed(), come(0, 0, 1, 100), mixed(), come(1, 1, 0, 1), mixed(),
+                             come(0, 1, 0, 1), mixed())[1:], [[-33], [100], [-33], [1], [2], [1], [1]])
+
+    def test_shares_and_generations_gone_by_do_not_matter(self):
+        row = [0, 100, 0, 0, 0, 100, 1, 0, 99]
+        self.assertEqual(ask(start(row), shares([7, 7, 7]), mixed(), next_one(), mixed(), shares([0, 9, 1]), next_one(),
+                             mixed())[1:], [[0], [4], [0], [4], [0], [0], [4]])
 
 
 if __name__ == "__main__":
